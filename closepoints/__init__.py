@@ -1,0 +1,1 @@
+"""Closepoints: the nearest two points, and all that are near."""
