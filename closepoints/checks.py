@@ -1,6 +1,6 @@
 """What is handed in is looked at here, before anything is reckoned.
 
-Each function asks in the order NoPoints, NoWay, then NoPlace, NoBound or NoNumber, then TooMany.
+Each function asks in the order NoPoints, NoWay, then NoPlace, NoBound or NoNumber, then TooMany or NoPaper.
 """
 
 from closepoints.errors import NoBound, NoNumber, NoPlace, NoPoints, NoWay, TooMany
@@ -9,12 +9,20 @@ STREETS = "streets"
 SQUARES = "squares"
 
 
+def need_count(count):
+    if count < 1 or count > 3:
+        raise NoPoints("a point has one, two or three numbers")
+
+
+def need_as_many_numbers(point, count):
+    if len(point) != count:
+        raise NoPoints("all points have as many numbers")
+
+
 def need_points(points):
     for point in points:
-        if len(point) < 1 or len(point) > 3:
-            raise NoPoints("a point has one, two or three numbers")
-        if len(point) != len(points[0]):
-            raise NoPoints("all points have as many numbers")
+        need_count(len(point))
+        need_as_many_numbers(point, len(points[0]))
 
 
 def need_way(way):
@@ -27,6 +35,11 @@ def need_points_and_way(points, way):
     need_way(way)
 
 
+def need_two_lists_and_way(points, others, way):
+    # Two lists are points and alike just where they are points together; one without points is like any.
+    need_points_and_way(points + others, way)
+
+
 def need_place(points, place):
     if place < 0 or place >= len(points):
         raise NoPlace("there is no such place")
@@ -35,6 +48,11 @@ def need_place(points, place):
 def need_bound(bound):
     if bound < 0:
         raise NoBound("a bound is 0 or more")
+
+
+def need_bound_from_one(bound):
+    if bound < 1:
+        raise NoBound("a bound or a side of cells is 1 or more")
 
 
 def need_number(number):

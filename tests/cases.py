@@ -1,7 +1,10 @@
 """What the tests share: points to ask about, every function, and answers by going through all pairs."""
 
+from closepoints.between import far_list, near_between, two_between
+from closepoints.cells import cells_paper, cells_show, greatest_bound
 from closepoints.near import how_many_near, most_apart, near_counts, near_pairs, so_manieth_pair
 from closepoints.nearest import mutual, nearest_all, nearest_of, nearest_to, nearest_two
+from closepoints.parts import bound_for_all, bound_for_parts, least_tree, parts_within
 from closepoints.points import all_pairs, how_far
 
 WAYS = ("streets", "squares")
@@ -49,6 +52,20 @@ ASKED = (
     ("so_manieth_pair", lambda points, way: so_manieth_pair(points, way, 1)),
     ("near_counts", lambda points, way: near_counts(points, way, 5)),
     ("most_apart", lambda points, way: most_apart(points, way, 5)),
+    ("greatest_bound", lambda points, way: greatest_bound(points, way)),
+    ("two_between", lambda points, way: two_between(points[:1], points[1:], way)),
+    ("near_between", lambda points, way: near_between(points[:1], points[1:], way, 5)),
+    ("far_list", lambda points, way: far_list(points[:1], points[1:], way)),
+    ("parts_within", lambda points, way: parts_within(points, way, 5)),
+    ("least_tree", lambda points, way: least_tree(points, way)),
+    ("bound_for_all", lambda points, way: bound_for_all(points, way)),
+    ("bound_for_parts", lambda points, way: bound_for_parts(points, way, 1)),
+)
+
+# What these tell hangs on a paper, or may be that there is none, so they are asked apart from the others.
+ASKED_OF_PAPERS = (
+    ("cells_show", lambda points, way: cells_show(points, way, 1, (1, []))),
+    ("cells_paper", lambda points, way: cells_paper(points, way, 1)),
 )
 
 # The same, with a place, a bound or a number that is refused.
@@ -61,6 +78,12 @@ ASKED_WRONGLY = (
     ("so_manieth_pair", lambda points, way: so_manieth_pair(points, way, 0)),
     ("near_counts", lambda points, way: near_counts(points, way, -1)),
     ("most_apart", lambda points, way: most_apart(points, way, -1)),
+    ("cells_show", lambda points, way: cells_show(points, way, 0, (1, []))),
+    ("cells_show, no paper", lambda points, way: cells_show(points, way, -1, ())),
+    ("cells_paper", lambda points, way: cells_paper(points, way, 0)),
+    ("near_between", lambda points, way: near_between(points[:1], points[1:], way, -1)),
+    ("parts_within", lambda points, way: parts_within(points, way, -1)),
+    ("bound_for_parts", lambda points, way: bound_for_parts(points, way, 0)),
 )
 
 
@@ -85,6 +108,14 @@ def strewn():
             for width in (0, 2, 30, GREAT):
                 found.append(spread(many, count, width, many * 100 + count * 10 + width))
     return found
+
+
+def bounds_of(fars):
+    """Nought, very great ones, and about four of the fars, each with one less and one more."""
+    some = [0, 10 ** 33, 10 ** 34 - 1]
+    for far in fars[:: max(1, len(fars) // 4)]:
+        some += [far, far + 1, max(0, far - 1)]
+    return sorted(set(some))
 
 
 def plain_far(way, point, other):

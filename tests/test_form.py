@@ -29,6 +29,9 @@ METHODS = set(
     "setdefault split splitlines startswith strip update upper values zfill bit_length".split()
 )
 
+OWN_METHODS = METHODS | {"add", "discard"}
+OWN_VALUES = set("count index title find get join lower upper split strip copy add".split())
+
 WORDS_OUT = re.compile(
     r"\b(type|typing|typing_extensions|enum|Enum|IntEnum|StrEnum|Flag|IntFlag|Generic|Protocol|ABC|ABCMeta|"
     r"namedtuple|NamedTuple|TypedDict|TYPE_CHECKING|abstractmethod)\b|dataclass|overload|contextmanager"
@@ -155,6 +158,21 @@ class Form(unittest.TestCase):
         for name, node in nodes():
             if isinstance(node, ast.Call) and isinstance(node.func, ast.Attribute):
                 self.assertIn(node.func.attr, METHODS | own, name)
+
+    def test_methods_and_values_of_own_classes(self):
+        pythons = {"args"}
+        for kind in (str, int, list, tuple, dict, set, frozenset, bytes):
+            pythons |= set(dir(kind))
+        methods, values = set(), set()
+        for name, node in nodes():
+            if isinstance(node, ast.ClassDef):
+                methods |= {part.name for part in node.body if isinstance(part, ast.FunctionDef)} - {"__init__"}
+            if isinstance(node, ast.Attribute) and isinstance(node.ctx, ast.Store):
+                self.assertIsInstance(node.value, ast.Name, name)
+                values.add(node.attr)
+        self.assertEqual(methods & values, set())
+        self.assertEqual(methods & pythons - OWN_METHODS, set())
+        self.assertEqual(values & pythons - OWN_VALUES, set())
 
 
 if __name__ == "__main__":

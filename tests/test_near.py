@@ -2,7 +2,7 @@ import collections
 import itertools
 import unittest
 
-from cases import GREAT, WAYS, plain_pairs, spread, strewn
+from cases import GREAT, WAYS, bounds_of, plain_pairs, spread, strewn
 from closepoints.errors import NoBound, NoNumber, NoPoints, NoWay, TooMany
 from closepoints.near import how_many_near, most_apart, near_counts, near_pairs, so_manieth_pair
 
@@ -23,11 +23,7 @@ def plain_apart(points, way, bound):
 
 
 def some_bounds(points, way):
-    fars = [far for far, i, j in plain_pairs(points, way)]
-    some = [0, 10 ** 33, 10 ** 34 - 1]
-    for far in fars[:: max(1, len(fars) // 4)]:
-        some += [far, far + 1, max(0, far - 1)]
-    return sorted(set(some))
+    return bounds_of([far for far, i, j in plain_pairs(points, way)])
 
 
 class NearPairs(unittest.TestCase):

@@ -1,13 +1,17 @@
 import unittest
 
-from cases import ASKED, ASKED_WRONGLY, BEYOND, GREAT, NOT_POINTS, NOT_WAYS, WAYS, plain_pairs, spread, strewn
+from cases import (
+    ASKED, ASKED_OF_PAPERS, ASKED_WRONGLY, BEYOND, GREAT, NOT_POINTS, NOT_WAYS, WAYS, plain_pairs, spread, strewn,
+)
 from closepoints.errors import NoPlace, NoPoints, NoWay
 from closepoints.points import all_pairs, how_far
+
+EACH = ASKED + ASKED_OF_PAPERS
 
 
 class WhatPointsAre(unittest.TestCase):
     def test_points_of_one_two_and_three_numbers_are_taken(self):
-        for name, ask in ASKED:
+        for name, ask in EACH:
             for points in ([(1,), (4,)], [(1, 2), (4, 6)], [(1, 2, 3), (4, 6, 8)]):
                 for way in WAYS:
                     with self.subTest(name=name, points=points, way=way):
@@ -18,7 +22,7 @@ class WhatPointsAre(unittest.TestCase):
         self.assertEqual(all_pairs([], "squares"), [])
 
     def test_what_are_no_points_is_refused_by_each(self):
-        for name, ask in ASKED:
+        for name, ask in EACH:
             for points in NOT_POINTS:
                 for way in WAYS:
                     with self.subTest(name=name, points=points, way=way):
@@ -26,7 +30,7 @@ class WhatPointsAre(unittest.TestCase):
                             ask(points, way)
 
     def test_a_late_wrong_point_among_many_is_refused_by_each(self):
-        for name, ask in ASKED:
+        for name, ask in EACH:
             for wrong in ((), (1,), (1, 2, 3), (1, 2, 3, 4)):
                 with self.subTest(name=name, wrong=wrong):
                     with self.assertRaises(NoPoints):
@@ -51,14 +55,14 @@ class Ways(unittest.TestCase):
             self.assertEqual(how_far(points, "squares", 0, 1), 12 * great * great - 4 * great + 1)
 
     def test_another_text_is_refused_by_each(self):
-        for name, ask in ASKED:
+        for name, ask in EACH:
             for way in NOT_WAYS:
                 with self.subTest(name=name, way=way):
                     with self.assertRaises(NoWay):
                         ask([(1, 2), (3, 4)], way)
 
     def test_another_text_is_refused_of_few_and_of_many_points(self):
-        for name, ask in ASKED:
+        for name, ask in EACH:
             for many in (1, 15, 150):
                 if not (name == "how_far" and many == 1):
                     with self.subTest(name=name, many=many):
@@ -68,7 +72,7 @@ class Ways(unittest.TestCase):
             all_pairs([], "street")
 
     def test_no_points_goes_ahead_of_no_way(self):
-        for name, ask in ASKED + ASKED_WRONGLY:
+        for name, ask in EACH + ASKED_WRONGLY:
             for points in NOT_POINTS:
                 for way in ("street", "", "SQUARES"):
                     with self.subTest(name=name, points=points, way=way):

@@ -7,8 +7,11 @@ from cases import ASKED, ASKED_WRONGLY, NOT_POINTS, WAYS, spread
 from closepoints.errors import NearError
 
 TELL_LISTS = ("all_pairs", "nearest_all", "mutual", "near_pairs", "near_counts", "most_apart")
-TELL_NUMBERS = ("how_far", "how_many_near")
-TELL_TUPLES = ("nearest_two", "nearest_of", "nearest_to", "so_manieth_pair")
+TELL_LISTS += ("near_between", "parts_within", "least_tree")
+TELL_NUMBERS = ("how_far", "how_many_near", "bound_for_all", "bound_for_parts")
+TELL_NUMBERS_OR_NONE = ("greatest_bound",)
+TELL_TUPLES = ("nearest_two", "nearest_of", "nearest_to", "so_manieth_pair", "two_between", "far_list")
+LISTS_OF_LISTS = ("parts_within",)
 LISTS_OF_NUMBERS = ("near_counts", "most_apart")
 
 
@@ -55,6 +58,8 @@ class NothingIsChangedOrKept(unittest.TestCase):
                     for points in ([], [(3, 3), (4, 5)], spread(14, 2, 4, 6)):
                         told = ask(points, way)
                         kept = copy.deepcopy(told)
+                        if name in LISTS_OF_LISTS and told:
+                            told[0].append("more")
                         told.append("more")
                         told.reverse()
                         with self.subTest(name=name, way=way, points=points):
@@ -75,7 +80,7 @@ class NothingIsChangedOrKept(unittest.TestCase):
     def test_points_that_were_changed_are_asked_anew(self):
         for name, ask in ASKED:
             for way in WAYS:
-                points = [(0, 1), (1, 1), (40, 40)]
+                points = [(0, 1), (2, 1), (40, 40)]
                 before = ask(points, way)
                 points[0] = (50, 50)
                 points[1] = (90, 90)
@@ -106,6 +111,9 @@ class Kinds(unittest.TestCase):
                         self.assertTrue(told)
                         if name in LISTS_OF_NUMBERS:
                             self.assertTrue(all(type(number) is int for number in told))
+                        elif name in LISTS_OF_LISTS:
+                            self.assertTrue(all(type(one) is list for one in told))
+                            self.assertTrue(all(kinds_are_right(tuple(one)) for one in told))
                         else:
                             self.assertTrue(all(kinds_are_right(one) for one in told))
 
@@ -116,11 +124,13 @@ class Kinds(unittest.TestCase):
                     with self.subTest(name=name, way=way, points=points):
                         if name in TELL_NUMBERS:
                             self.assertIs(type(ask(points, way)), int)
+                        if name in TELL_NUMBERS_OR_NONE:
+                            self.assertIn(type(ask(points, way)), (int, type(None)))
                         if name in TELL_TUPLES:
                             self.assertTrue(kinds_are_right(ask(points, way)))
 
     def test_every_function_is_among_these(self):
-        named = sorted(TELL_LISTS + TELL_NUMBERS + TELL_TUPLES)
+        named = sorted(TELL_LISTS + TELL_NUMBERS + TELL_NUMBERS_OR_NONE + TELL_TUPLES)
         self.assertEqual(named, sorted(name for name, ask in ASKED))
 
 
