@@ -35,9 +35,14 @@ def need_points_and_way(points, way):
     need_way(way)
 
 
-def need_two_lists_and_way(points, others, way):
+def need_two_lists(points, others):
     # Two lists are points and alike just where they are points together; one without points is like any.
-    need_points_and_way(points + others, way)
+    need_points(points + others)
+
+
+def need_two_lists_and_way(points, others, way):
+    need_two_lists(points, others)
+    need_way(way)
 
 
 def need_place(points, place):

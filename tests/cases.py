@@ -2,6 +2,7 @@
 
 from closepoints.between import far_list, near_between, two_between
 from closepoints.cells import cells_paper, cells_show, greatest_bound
+from closepoints.far import farthest_of, farthest_two, middle, most_near, sums_place
 from closepoints.near import how_many_near, most_apart, near_counts, near_pairs, so_manieth_pair
 from closepoints.nearest import mutual, nearest_all, nearest_of, nearest_to, nearest_two
 from closepoints.parts import bound_for_all, bound_for_parts, least_tree, parts_within
@@ -60,6 +61,11 @@ ASKED = (
     ("least_tree", lambda points, way: least_tree(points, way)),
     ("bound_for_all", lambda points, way: bound_for_all(points, way)),
     ("bound_for_parts", lambda points, way: bound_for_parts(points, way, 1)),
+    ("farthest_two", lambda points, way: farthest_two(points, way)),
+    ("farthest_of", lambda points, way: farthest_of(points, way, 0)),
+    ("middle", lambda points, way: middle(points, way)),
+    ("sums_place", lambda points, way: sums_place(points, way)),
+    ("most_near", lambda points, way: most_near(points, way, 5)),
 )
 
 # What these tell hangs on a paper, or may be that there is none, so they are asked apart from the others.
@@ -84,6 +90,9 @@ ASKED_WRONGLY = (
     ("near_between", lambda points, way: near_between(points[:1], points[1:], way, -1)),
     ("parts_within", lambda points, way: parts_within(points, way, -1)),
     ("bound_for_parts", lambda points, way: bound_for_parts(points, way, 0)),
+    ("farthest_of", lambda points, way: farthest_of(points, way, 99)),
+    ("farthest_of, below", lambda points, way: farthest_of(points, way, -1)),
+    ("most_near", lambda points, way: most_near(points, way, -1)),
 )
 
 

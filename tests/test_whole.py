@@ -1,6 +1,8 @@
 """What holds of everything: nothing is changed or kept, and each kind is the one that is told."""
 
 import copy
+import importlib
+import inspect
 import unittest
 
 from cases import ASKED, ASKED_WRONGLY, NOT_POINTS, WAYS, spread
@@ -11,6 +13,29 @@ TELL_LISTS += ("near_between", "parts_within", "least_tree")
 TELL_NUMBERS = ("how_far", "how_many_near", "bound_for_all", "bound_for_parts")
 TELL_NUMBERS_OR_NONE = ("greatest_bound",)
 TELL_TUPLES = ("nearest_two", "nearest_of", "nearest_to", "so_manieth_pair", "two_between", "far_list")
+TELL_TUPLES += ("farthest_two", "farthest_of", "middle", "sums_place", "most_near")
+# Each module's names with their arguments in their places, as the document's interface tells them.
+INTERFACE = (
+    ("points", "how_far points way one other", "all_pairs points way"),
+    ("nearest", "nearest_two points way", "nearest_of points way place", "nearest_all points way", "mutual points way",
+     "nearest_to points way point"),
+    ("near", "near_pairs points way bound", "how_many_near points way bound", "so_manieth_pair points way number",
+     "near_counts points way bound", "most_apart points way bound"),
+    ("cells", "cell_of point side", "cells_show points way bound paper", "cells_paper points way bound",
+     "greatest_bound points way"),
+    ("between", "two_between points others way", "near_between points others way bound", "far_list points others way"),
+    ("parts", "parts_within points way bound", "least_tree points way", "bound_for_all points way",
+     "bound_for_parts points way many"),
+    ("kept", "Kept way count", "Kept.put self point", "Kept.take self name", "Kept.names self", "Kept.point self name",
+     "Kept.two self", "Kept.nearest self name", "Kept.near self bound"),
+    ("texts", "points_text points", "read_points text"),
+    ("desk", "Desk", "Desk.say self row"),
+    ("far", "farthest_two points way", "farthest_of points way place", "middle points way", "sums_place points way",
+     "most_near points way bound"),
+    ("turned", "moved points by", "mirrored points number", "exchanged points one other", "times points many",
+     "moved_by points others"),
+)
+
 LISTS_OF_LISTS = ("parts_within",)
 LISTS_OF_NUMBERS = ("near_counts", "most_apart")
 
@@ -132,6 +157,18 @@ class Kinds(unittest.TestCase):
     def test_every_function_is_among_these(self):
         named = sorted(TELL_LISTS + TELL_NUMBERS + TELL_NUMBERS_OR_NONE + TELL_TUPLES)
         self.assertEqual(named, sorted(name for name, ask in ASKED))
+
+
+class Interface(unittest.TestCase):
+    def test_names_and_arguments_are_there_as_they_stand(self):
+        for module, *rows in INTERFACE:
+            for row in rows:
+                name, *arguments = row.split(" ")
+                with self.subTest(module=module, name=name):
+                    found = importlib.import_module("closepoints." + module)
+                    for part in name.split("."):
+                        found = getattr(found, part)
+                    self.assertEqual(list(inspect.signature(found).parameters), arguments)
 
 
 if __name__ == "__main__":
